@@ -1,0 +1,1 @@
+"""Skewer: games whose rules are programs and are edited."""

@@ -1,0 +1,49 @@
+"""Games for the tests, made anew for each call."""
+
+from skewer.syntax import Board, Game
+
+
+def ways_of(size=4):
+    """East and west on a row of fields."""
+    east = list(range(1, size)) + [-1]
+    west = list(range(-1, size - 1))
+    return [("east", east), ("west", west)]
+
+
+def ride():
+    return ("any", ("row", [("go", 0), ("empty",)]))
+
+
+def hop():
+    return ("row", [("go", 1), ("foe",), ("take",), ("go", 1), ("either", [("empty",), ("at", 1)]), ("lay", 1)])
+
+
+def still():
+    return ("rest",)
+
+
+def lacks_or_holds():
+    return ("or", ("lacks", 0), ("and", ("not", ("stuck",)), ("holds", 1, [0, 3])))
+
+
+def board_of(size=4, ways=None):
+    return Board(size, ways_of(size) if ways is None else ways)
+
+
+def game_of(board=None, kinds=None, clauses=None, programs=None):
+    """An ordinary game, but for the parts that are given."""
+    board = board_of() if board is None else board
+    kinds = ["man", "king"] if kinds is None else kinds
+    clauses = [(lacks_or_holds(), "lost"), (("few", 2), "drawn")] if clauses is None else clauses
+    programs = [(ride(), hop()), (still(), ("own",))] if programs is None else programs
+    return Game(board, kinds, clauses, programs)
+
+
+def with_program(program):
+    """An ordinary game with this program for the second kind and side 1."""
+    return game_of(programs=[(ride(), hop()), (still(), program)])
+
+
+def with_condition(condition):
+    """An ordinary game with this condition in its last clause."""
+    return game_of(clauses=[(("stuck",), "won"), (condition, "drawn")])
