@@ -156,7 +156,7 @@ class ErrorsTest(unittest.TestCase):
         self.check("clause 0 won if few @1000000", "number")
 
     def test_first_word(self):
-        for text in ("@lamp", "@board 4", "@kind man", "@0", "@won if stuck", "@nowhere", "  @drops clause 0", "@= way"):
+        for text in ("@lamp", "@board 4", "@kind man", "@0", "@won if stuck", "@nowhere", " @drops clause 0", "@="):
             self.check(text, "line")
 
     def test_no_tokens(self):
@@ -173,7 +173,7 @@ class ErrorsTest(unittest.TestCase):
         texts = texts + ["clause 0 won if not(stuck@", "drop@", "drop @0", "drop @program man 0", "drop clause@"]
         texts = texts + ["drop clause @man", "drop clause 0 @0", "drop clause 0@;", "way@", "way @0", "way @go 0 1"]
         texts = texts + ["way east@", "way east @east", "way east @nowhere", "way east 0@", "way east 0 @east"]
-        texts = texts + ["way east 0@; 1", "way east 0 1 @2", "way east 0 1@;", "way east 0 nowhere @0", "way east 0  @"]
+        texts = texts + ["way east 0@; 1", "way east 0 1 @2", "way east 0 1@;", "way east 0 nowhere @0", "way east 0 @"]
         for text in texts:
             self.check(text, "expected")
 
