@@ -114,7 +114,8 @@ def is_word_of_position(game, number, word):
         return word == "turn"
     if number == 1:
         return word in ("0", "1")
-    return word == "." or (word[:-1] in game.kinds and word[-1] in ("0", "1"))
+    # A word can be empty, and so can the name of a kind of a game that is not let by.
+    return word == "." or (word[:-1] in game.kinds and word[-1:] in ("0", "1"))
 
 
 def man_of_word(game, word):

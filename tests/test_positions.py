@@ -5,6 +5,7 @@ import itertools
 import unittest
 
 from skewer.reader import read_position
+from skewer.syntax import Board, Game
 from skewer.writer import write_position
 from tests.games import board_of, game_of
 from tests.texts import error_of, unmarked
@@ -97,6 +98,20 @@ class ErrorsTest(unittest.TestCase):
 
     def test_empty_text(self):
         self.check("@", "word")
+
+    def test_empty_word_and_empty_name(self):
+        """The empty word is no man, even where a kind has the empty name."""
+        game = Game(Board(1, [("east", [-1])]), [""], [], [(("rest",), ("rest",))])
+        self.assertEqual(read_position(game, "turn 0 0"), (0, (1,)))
+        self.assertEqual(read_position(game, "turn 0 1"), (0, (2,)))
+        for text in ("turn 0 ", "turn 0 2", "turn 0 00"):
+            with self.subTest(text=text):
+                self.assertEqual(error_of(read_position, game, text), (1, 8, "word"))
+        for text in ("turn 0 0 ", "turn 0 . 0"):
+            with self.subTest(text=text):
+                self.assertEqual(error_of(read_position, game, text), (1, 10, "count"))
+        man = Game(Board(1, [("east", [-1])]), ["man"], [], [(("rest",), ("rest",))])
+        self.assertEqual(error_of(read_position, man, "turn 0 "), (1, 8, "word"))
 
     def test_first_wrong_word(self):
         self.check("turn @3 lamp . . . . .", "word")
