@@ -1,6 +1,13 @@
 """Games for the tests, made anew for each call."""
 
+import copy
+
 from skewer.syntax import Board, Game
+
+
+def parts_of(game):
+    """Copies of all parts of the game, to be compared later on."""
+    return copy.deepcopy((game.board.size, game.board.ways, game.kinds, game.clauses, game.programs))
 
 
 def ways_of(size=4):
@@ -47,3 +54,34 @@ def with_program(program):
 def with_condition(condition):
     """An ordinary game with this condition in its last clause."""
     return game_of(clauses=[(("stuck",), "won"), (condition, "drawn")])
+
+
+def either(*programs):
+    return ("either", list(programs))
+
+
+def row(*programs):
+    return ("row", list(programs))
+
+
+def step_to(way):
+    """A step to an empty field."""
+    return row(("go", way), ("empty",))
+
+
+def capture(way):
+    """A step to a field with a foe, who is taken."""
+    return row(("go", way), ("foe",), ("take",))
+
+
+def walk(*ways):
+    """Steps by these ways, to empty fields or by taking a foe."""
+    return either(*[either(step_to(way), capture(way)) for way in ways])
+
+
+def ring_of(size, programs, clauses=None, kinds=None):
+    """A game on a ring of fields, with the ways east and west."""
+    east = [(field + 1) % size for field in range(size)]
+    west = [(field - 1) % size for field in range(size)]
+    board = Board(size, [("east", east), ("west", west)])
+    return Game(board, ["man", "king"][:len(programs)] if kinds is None else kinds, clauses or [], programs)

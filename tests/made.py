@@ -1,6 +1,7 @@
 """Many games and positions for the tests, made by counting on from a seed, so that each run has the same ones."""
 
 from skewer.syntax import Board, Game
+from tests.games import capture, either, ring_of, step_to, walk
 
 STEPS = ("go", "go", "go", "go", "go", "go", "empty", "own", "foe", "at", "take", "take", "lay", "rest")
 FORMS = ("row", "row", "either", "either", "either", "any", "any")
@@ -81,3 +82,16 @@ def made_games(seed, number):
     maker = Maker(seed)
     sizes = [(2 + maker.below(4), 1 + maker.below(3), 1 + maker.below(3)) for _ in range(number)]
     return [maker.game(size, ways, kinds) for size, ways, kinds in sizes]
+
+
+def small_rings(maker, number):
+    """So many games on rings of three to five fields, in which play can be longer than in other made games."""
+    steps = (walk(0, 1), walk(0), walk(1), step_to(0), capture(1), either(step_to(0), step_to(1)))
+    games = []
+    for _ in range(number):
+        size = 3 + maker.below(3)
+        pairs = [(maker.one_of(steps), maker.one_of(steps)) for _ in range(1 + maker.below(2))]
+        clauses = [(maker.condition(size, len(pairs), 2), maker.one_of(("won", "won", "lost", "drawn")))
+                   for _ in range(maker.below(3))]
+        games.append(ring_of(size, pairs, clauses))
+    return games
