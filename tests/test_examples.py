@@ -4,10 +4,18 @@ import doctest
 import os
 import unittest
 
+from skewer.back import before, limits_of
+from skewer.book import next_positions, solve
 from skewer.clauses import end, is_over
-from skewer.errors import TextError
+from skewer.errors import InvalidMove, TextError
+from skewer.generator import build_for, spells, steps_of
+from skewer.judge import judge_book
+from skewer.mirror import joined, mirrored, undone
+from skewer.parts import class_of, judge_part, solve_parts
+from skewer.play import line_after
 from skewer.reader import edited, read_game, read_position
 from skewer.runs import after, moves, spots
+from skewer.spelling import accepts_paper, make_paper
 from skewer.syntax import Board, Game
 from skewer.writer import write_game, write_position, write_program
 
@@ -49,6 +57,50 @@ class DocumentTest(unittest.TestCase):
         self.assertEqual(moves(game, (1, (0, 1, 2, 0))), [(2, 0, (1,), 0)])
         self.assertEqual(end(game, (0, (2, 0, 0, 0))), "lost")
         self.assertIs(is_over(game, (1, (0, 1, 2, 0))), False)
+        self.assertEqual(line_after(game, (0, (1, 0, 2, 0)), [(0, 1, (), 0), (2, 0, (1,), 0)]), (0, (2, 0, 0, 0)))
+        with self.assertRaises(InvalidMove):
+            line_after(game, (0, (1, 0, 2, 0)), [(0, 2, (), 0)])
+
+    def test_generator_and_spelling(self):
+        slide = ("row", [("go", 0), ("any", ("row", [("empty",), ("go", 0)]))])
+        self.assertEqual(steps_of(slide), [("go", 0), ("empty",), ("go", 0)])
+        automaton = build_for(slide)
+        self.assertEqual(automaton.rows[0], [(("go", 0), 1)])
+        self.assertEqual(automaton.rows[1], [(("empty",), 2)])
+        self.assertEqual(automaton.ends, [1, 3])
+        self.assertIs(spells(automaton, [("go", 0), ("empty",), ("go", 0)]), True)
+        self.assertIs(spells(automaton, []), False)
+        paper = make_paper(slide, automaton)
+        self.assertEqual((paper[0], accepts_paper(slide, automaton, paper[1])), ("paper", True))
+        self.assertEqual(make_paper(("go", 0), automaton), ("differ", [("go", 0), ("empty",), ("go", 0)]))
+
+    def test_back(self):
+        board = Board(3, [("east", [1, 2, -1])])
+        step = ("row", [("go", 0), ("either", [("empty",), ("row", [("foe",), ("take",)])])])
+        game = Game(board, ["man"], [], [(step, step)])
+        self.assertEqual(limits_of(game, (0, (1, 2, 0))), [1, 1])
+        pairs = [((0, (1, 0, 0)), (0, 1, (), 0)), ((0, (1, 2, 0)), (0, 1, (1,), 0))]
+        self.assertEqual(before(game, (1, (0, 1, 0)), [1, 0]), pairs[:1])
+        self.assertEqual(before(game, (1, (0, 1, 0)), [1, 1]), pairs)
+
+    def test_book_judge_and_parts(self):
+        board = Board(3, [("on", [1, 2, -1]), ("off", [-1, 0, 1])])
+        step, away = ("row", [("go", 0), ("empty",)]), ("row", [("go", 1), ("empty",)])
+        game = Game(board, ["man"], [], [(step, away)])
+        start, later = (0, (1, 0, 2)), (1, (0, 1, 2))
+        self.assertEqual((next_positions(game, start), next_positions(game, (0, (0, 1, 2)))), ([later], []))
+        book = solve(game, [start])
+        self.assertEqual(book, {start: ("won", 1), later: ("lost", 0)})
+        self.assertEqual((judge_book(game, book), judge_book(game, {start: ("drawn",)})), (None, (start, "next")))
+        self.assertEqual((class_of(start), class_of((1, (1, 1, 0)))), ((1, 1), (2, 0)))
+        parts = solve_parts(game, [start])
+        self.assertEqual(([pair[0] for pair in parts], judge_part(game, {}, parts[0][1])), ([(1, 1)], None))
+
+    def test_mirror(self):
+        turned = ((1, 2, 0), (0,), False)
+        self.assertEqual(mirrored(turned, (0, (1, 0, 2))), (0, (2, 1, 0)))
+        self.assertEqual((joined(turned, turned), undone(turned)), (((2, 0, 1), (0,), False), ((2, 0, 1), (0,), False)))
+        self.assertEqual(mirrored(((0, 1, 2), (0,), True), (0, (1, 0, 4))), (1, (2, 0, 3)))
 
 
 class ReadmeTest(unittest.TestCase):
