@@ -7,6 +7,8 @@ import unittest
 from skewer.back import before, limits_of
 from skewer.book import next_positions, solve
 from skewer.clauses import end, is_over
+from skewer.dispute import accepts_record, settle
+from skewer.edits import differ, renew, witness
 from skewer.errors import InvalidMove, TextError
 from skewer.generator import build_for, spells, steps_of
 from skewer.judge import judge_book
@@ -14,9 +16,11 @@ from skewer.mirror import joined, mirrored, undone
 from skewer.parts import class_of, judge_part, solve_parts
 from skewer.play import line_after
 from skewer.reader import edited, read_game, read_position
+from skewer.referee import agree
 from skewer.runs import after, moves, spots
 from skewer.spelling import accepts_paper, make_paper
 from skewer.syntax import Board, Game
+from skewer.workers import Worker
 from skewer.writer import write_game, write_position, write_program
 
 README = os.path.join(os.path.dirname(os.path.dirname(os.path.abspath(__file__))), "README.md")
@@ -101,6 +105,37 @@ class DocumentTest(unittest.TestCase):
         self.assertEqual(mirrored(turned, (0, (1, 0, 2))), (0, (2, 1, 0)))
         self.assertEqual((joined(turned, turned), undone(turned)), (((2, 0, 1), (0,), False), ((2, 0, 1), (0,), False)))
         self.assertEqual(mirrored(((0, 1, 2), (0,), True), (0, (1, 0, 4))), (1, (2, 0, 3)))
+
+    def test_dispute_and_referee(self):
+        board = Board(3, [("on", [1, 2, -1]), ("off", [-1, 0, 1])])
+        step, away = ("row", [("go", 0), ("empty",)]), ("row", [("go", 1), ("empty",)])
+        game = Game(board, ["man"], [], [(step, away)])
+        start, later = (0, (1, 0, 2)), (1, (0, 1, 2))
+        honest = Worker("ann", solve(game, [start]))
+        liar = Worker("bob", {start: ("drawn",), later: ("won", 3)})
+        record = settle(game, start, honest, liar)
+        # The example tells two steps and "over". But if the only next position is won for the other side, ("lost", 4)
+        # follows, so that points 35 and 47 have it that "drawn" is "wrong" at the first step already.
+        self.assertEqual([one[0] for one in record[0]], [start])
+        self.assertEqual((record[1], accepts_record(game, record)), ([(1, "wrong")], True))
+        self.assertEqual(agree(game, start, [liar, honest])[:2], (("won", 1), ["bob"]))
+        # What the example tells comes from a liar whose claim follows from its answer.
+        for book in ({start: ("drawn",), later: ("drawn",)}, {start: ("lost", 4), later: ("won", 3)}):
+            record = settle(game, start, honest, Worker("bob", book))
+            self.assertEqual([one[0] for one in record[0]], [start, later])
+            self.assertEqual((record[1], accepts_record(game, record)), ([(1, "over")], True))
+
+    def test_edits(self):
+        board = Board(3, [("east", [1, 2, -1]), ("west", [-1, 0, 1])])
+        step, away = ("row", [("go", 0), ("empty",)]), ("row", [("go", 1), ("empty",)])
+        old = Game(board, ["man"], [], [(step, away)])
+        new = Game(board, ["man"], [(("few", 2), "drawn")], [(step, away)])
+        start = (0, (1, 0, 2))
+        book = solve(old, [start])
+        self.assertIs(differ(old, new, start), True)
+        expected = ({start: ("drawn",)}, [(start, ("won", 1), ("drawn",))])
+        self.assertEqual(renew(old, new, book, [start]), expected)
+        self.assertEqual(witness(old, new, book, start), [])
 
 
 class ReadmeTest(unittest.TestCase):
