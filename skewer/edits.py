@@ -40,7 +40,8 @@ def touched_in(old, new, book, table):
     found = {position: True for position in todo}
     origins = origins_of(table)
     while todo:
-        for origin in origins.get(todo.pop(), []):
+        position = todo.pop()
+        for origin in origins.get(position, []):
             if origin not in found:
                 found[origin] = True
                 todo.append(origin)

@@ -12,7 +12,7 @@ from tests.games import either, parts_of, ring_of, step_to, walk
 from tests.liars import teller
 from tests.made import Maker, made_games, small_rings
 from tests.slow import plain_book
-from tests.slow_edits import plain_follows, plain_settle
+from tests.slow_more import plain_follows, plain_settle
 
 UNSOUND = (None, "won", ["won", 1], ("won",), ("won", -1), ("won", True), ("drawn", 0), 5, ())
 START = (0, (1, 0, 0, 2, 0, 0))
@@ -32,7 +32,7 @@ def hunt(size=6):
 
 
 def three_ways():
-    """From its first field, the man of side 0 goes to one of three others; that of side 1 can then go back and forth."""
+    """The man of side 0 goes from its first field to one of three others; that of side 1 goes back and forth."""
     board = Board(6, [("a", [1, -1, -1, -1, 5, 4]), ("b", [2, -1, -1, -1, -1, -1]), ("c", [3, -1, -1, -1, -1, -1])])
     return Game(board, ["man"], [], [(either(("go", 0), ("go", 1), ("go", 2)), step_to(0))])
 

@@ -13,7 +13,7 @@ from skewer.syntax import Board, Game
 from tests.games import capture, either, parts_of, ring_of, row, step_to, walk
 from tests.made import Maker, made_games, small_rings
 from tests.slow import plain_book
-from tests.slow_edits import plain_differ, plain_renew, plain_touched, plain_witness
+from tests.slow_more import plain_differ, plain_renew, plain_touched, plain_witness
 
 START = (0, (1, 0, 2))
 LATER = (1, (0, 1, 2))
@@ -68,8 +68,9 @@ class UnlikeTest(unittest.TestCase):
     """Games with other numbers of fields or of kinds."""
 
     def calls(self, old, new):
-        return [lambda: differ(old, new, START), lambda: touched(old, new, {}, [START]), lambda: touched(old, new, {}, []),
-                lambda: renew(old, new, {}, [START]), lambda: witness(old, new, {}, START)]
+        return [lambda: differ(old, new, START), lambda: touched(old, new, {}, [START]),
+                lambda: touched(old, new, {}, []), lambda: renew(old, new, {}, [START]),
+                lambda: witness(old, new, {}, START)]
 
     def check(self, old, new, reason):
         for pair in ((old, new), (new, old)):
@@ -133,7 +134,8 @@ class DifferTest(unittest.TestCase):
         results = ("won", "lost", "drawn")
         for one in results:
             for other in results:
-                self.check(duel([(("few", 2), one)]), duel([(("few", 1), "won"), (("few", 3), other)]), START, one != other)
+                new = duel([(("few", 1), "won"), (("few", 3), other)])
+                self.check(duel([(("few", 2), one)]), new, START, one != other)
 
     def test_over_in_both_without_a_move_in_one(self):
         """It is lost without a move, and so by a clause that says so."""

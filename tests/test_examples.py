@@ -1,4 +1,4 @@
-"""The examples of the document and of README.md, as far as the program goes."""
+"""The examples of the document and of README.md."""
 
 import doctest
 import os
@@ -7,6 +7,7 @@ import unittest
 from skewer.back import before, limits_of
 from skewer.book import next_positions, solve
 from skewer.clauses import end, is_over
+from skewer.desk import Desk
 from skewer.dispute import accepts_record, settle
 from skewer.edits import differ, renew, witness
 from skewer.errors import InvalidMove, TextError
@@ -136,6 +137,19 @@ class DocumentTest(unittest.TestCase):
         expected = ({start: ("drawn",)}, [(start, ("won", 1), ("drawn",))])
         self.assertEqual(renew(old, new, book, [start]), expected)
         self.assertEqual(witness(old, new, book, start), [])
+
+    def test_desk(self):
+        desk = Desk()
+        lines = ["board 3", "way east 0 1 2", "way west 2 1 0", "kind man"]
+        lines = lines + ["program man 0 = row(go east, empty)", "program man 1 = row(go west, empty)"]
+        self.assertEqual([desk.obey("text " + line) for line in lines][5], ["lines 6"])
+        self.assertEqual((desk.obey("load"), desk.obey("root turn 0 man0 . man1")), (["loaded 3 1"], ["roots 1"]))
+        self.assertEqual((desk.obey("solve"), desk.obey("value turn 0 man0 . man1")), (["solved 2"], ["won 1 0-1"]))
+        self.assertEqual(desk.obey("moves turn 0 man0 . man1"), ["0-1"])
+        self.assertEqual(desk.obey("edit clause 0 drawn if few 2"),
+                         ["edited 1", "turn 0 man0 . man1 was won 1 is drawn"])
+        self.assertEqual(desk.obey("agree 5 9 turn 0 man0 . man1"), ["agreed drawn", "caught ann cid"])
+        self.assertEqual(desk.obey("value turn 1 . man0 man1"), ["refused book"])
 
 
 class ReadmeTest(unittest.TestCase):

@@ -10,7 +10,7 @@ from tests.games import either, parts_of, ring_of, step_to, walk
 from tests.liars import teller
 from tests.made import Maker, small_rings
 from tests.slow import plain_book
-from tests.slow_edits import plain_accepts
+from tests.slow_more import plain_accepts
 
 START = (0, (1, 0, 0, 2, 0, 0))
 FIRST, SECOND = (1, (0, 0, 0, 2, 0, 1)), (1, (0, 1, 0, 2, 0, 0))
@@ -162,7 +162,8 @@ class RecordsTest(unittest.TestCase):
         """With a step at another next position of different answers."""
         answers = ([("won", 3), ("won", 1)], [("drawn",), ("drawn",)])
         claims = (("lost", 4), ("drawn",))
-        for later, told, expected in ((FIRST, (("won", 3), ("drawn",)), True), (SECOND, (("won", 1), ("drawn",)), False),
+        for later, told, expected in ((FIRST, (("won", 3), ("drawn",)), True),
+                                      (SECOND, (("won", 1), ("drawn",)), False),
                                       (SECOND, (("won", 3), ("drawn",)), False)):
             second = (later, told, ([None] * len(next_positions(ring(), later)), [None] * 2))
             record = ([(START, claims, answers), second], [(0, "silent"), (1, "silent")])

@@ -11,7 +11,7 @@ from tests.games import either, parts_of, ring_of, step_to, walk
 from tests.liars import teller
 from tests.made import Maker, small_rings
 from tests.slow import plain_book
-from tests.slow_edits import plain_agree
+from tests.slow_more import plain_agree
 
 START = (0, (1, 0, 0, 2, 0, 0))
 FIRST, SECOND = (1, (0, 0, 0, 2, 0, 1)), (1, (0, 1, 0, 2, 0, 0))
@@ -84,7 +84,8 @@ class AgreeTest(unittest.TestCase):
             ([right, right, one, one], right, ["cid", "dan"], [(right, one), (right, one)]),
             ([one, one, right, two], right, ["ann", "bob", "dan"], [(one, right), (one, right), (right, two)]),
             ([one, two, right], right, ["ann", "bob"], [(one, two)]),
-            ([one, two, one, right, two], right, ["ann", "bob", "cid", "eve"], [(one, two), (one, right), (right, two)]),
+            ([one, two, one, right, two], right, ["ann", "bob", "cid", "eve"],
+             [(one, two), (one, right), (right, two)]),
             ([one, two, None, one, two], None, ["ann", "bob", "dan", "eve"], [(one, two), (one, two)]),
             ([one, two, one], one, ["ann", "bob"], [(one, two)]),
             ([one, one, None, one], one, [], []),
