@@ -98,8 +98,10 @@ def accepts_record(game, record):
     steps, caught = record
     if not steps or not caught or is_same(steps[0][1][0], steps[0][1][1]):
         return False
-    if not all([leads_on(game, step, following) for step, following in zip(steps, steps[1:])]):
-        return False
+    for step, following in zip(steps, steps[1:]):
+        # The claims of this step differ: the first ones do, and so do those to which each step so far has led.
+        if not leads_on(game, step, following):
+            return False
     return caught_in(game, steps[-1]) == caught
 
 

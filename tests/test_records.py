@@ -169,6 +169,21 @@ class RecordsTest(unittest.TestCase):
             record = ([(START, claims, answers), second], [(0, "silent"), (1, "silent")])
             self.assertIs(accepts_record(ring(), record), expected)
 
+    def test_claims_that_do_not_differ_at_a_later_step(self):
+        """Behind a step that does not lead there, and though nobody is caught there."""
+        drawn = [("drawn",), ("drawn",)]
+        first = (START, (("won", 2), ("drawn",)), ([("lost", 1), ("drawn",)], drawn))
+        last = (FIRST, (("lost", 1), ("drawn",)), ([None, None], drawn))
+        self.assertIs(accepts_record(ring(), ([first, last], [(0, "silent")])), True)
+        for claim, told in ((("drawn",), drawn), (("lost", 4), [("won", 3), ("won", 3)]),
+                            (("won", 3), [("lost", 2), ("lost", 2)])):
+            for position in (START, FIRST, SECOND):
+                same = (position, (claim, claim), (told, told))
+                for steps in ([first, same, last], [first, same], [same, last], [same, first, last], [last, same, last],
+                              [first, last, same, last], [same, same], [first, same, same, last]):
+                    self.assertIs(accepts_record(ring(), (steps, [(0, "silent")])), False)
+                    self.assertIs(accepts_record(ring(), (steps, [(0, "wrong"), (1, "wrong")])), False)
+
     def test_lists_of_no_or_too_many_steps(self):
         record = settle_claims(ring(), START, Worker("a", {}), Worker("b", {}), (None, ("drawn",)))
         self.assertIs(accepts_record(ring(), record), True)
